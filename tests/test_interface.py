@@ -1,0 +1,35 @@
+"""The names and arguments of the interface, as the document has them."""
+
+import importlib
+import inspect
+import unittest
+
+INTERFACE = {
+    "wearplan.signs": {"is_whole": "thing least most"},
+    "wearplan.errors": {
+        "NoPart": "at", "NoWorks": "at", "NoPlan": "at", "Shut": "round_number",
+        "Falls": "round_number part_number", "TooGreat": "most", "NoText": "row",
+    },
+    "wearplan.parts": {
+        "Part": "full mark wear price", "loss": "part round_number", "worn": "part stand first rounds",
+        "lasts": "part stand first most",
+    },
+}
+
+
+class InterfaceTest(unittest.TestCase):
+    def test_each_stands_in_its_module_with_its_arguments(self):
+        for module, names in INTERFACE.items():
+            for name, arguments in names.items():
+                with self.subTest(module=module, name=name):
+                    thing = getattr(importlib.import_module(module), name)
+                    self.assertEqual(thing.__module__, module)
+                    parameters = inspect.signature(thing).parameters.values()
+                    self.assertEqual([parameter.name for parameter in parameters], arguments.split())
+                    for parameter in parameters:
+                        self.assertIs(parameter.kind, parameter.POSITIONAL_OR_KEYWORD)
+                        self.assertIs(parameter.default, parameter.empty)
+
+
+if __name__ == "__main__":
+    unittest.main()

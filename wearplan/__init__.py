@@ -1,0 +1,1 @@
+"""Wearplan: parts that wear, plans of changes, papers for them."""

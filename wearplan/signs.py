@@ -1,0 +1,21 @@
+"""What whole numbers and rows of them are."""
+
+
+def is_whole(thing, least, most):
+    """Tell whether thing is a whole number from least to most."""
+    # A truth counts as an int in Python, but stands for no number here.
+    if isinstance(thing, bool) or not isinstance(thing, int):
+        return False
+    return least <= thing <= most
+
+
+def is_row(thing):
+    """Tell whether thing is a list or a tuple."""
+    return isinstance(thing, (list, tuple))
+
+
+def is_whole_row(thing, shortest, longest, least, most):
+    """Tell whether thing is a row of shortest to longest whole numbers from least to most."""
+    if not is_row(thing) or not shortest <= len(thing) <= longest:
+        return False
+    return all([is_whole(entry, least, most) for entry in thing])
