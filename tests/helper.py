@@ -1,11 +1,17 @@
-"""What several tests need: things of every kind, calls by name in every order, what may be told."""
+"""What several tests need: things of every kind, calls by name in every order, other ways to find what is told."""
 
-from itertools import permutations
+from itertools import combinations, permutations, product
 
 NOT_WHOLE = (
     None, True, False, "", "1", "abc", [], [1], (), (1,), {}, {1: 2}, {"a": [1]}, [[[[[1]]]]], ("1", None),
 )
 NOT_ROWS = (None, True, False, 0, 1, -1, 10 ** 40, "", "1", "123", {}, {0: 1}, {1: 1, 2: 2}, {"a": [1]})
+# Rows that are neither numbers nor rows of numbers, up to five deep.
+ODD_ROWS = (
+    [None], (None,), [True], [False], (False, True), ["0"], ("",), [{}], ({0: 0},), [[]], [()], ((),), [[[]]], [[0]],
+    ((0,),), [[[0]]], [[[[[0]]]]], [[[[[None]]]]], [{"a": [{"b": ()}]}], [[0], None], ["01", [0, 1]], [10 ** 40],
+    [-10 ** 40], [0, None], [0, True], [0, "1"], [None, 1],
+)
 
 
 def by_names(function, **arguments):
@@ -22,3 +28,81 @@ def is_told(thing):
 
 def fields_of(thing):
     return dict(vars(thing))
+
+
+def seen(thing):
+    """All that can be seen of a thing, kinds too, so that any change of it shows."""
+    if isinstance(thing, dict):
+        return "dict", [(seen(key), seen(value)) for key, value in thing.items()]
+    if isinstance(thing, (list, tuple)):
+        return type(thing).__name__, [seen(entry) for entry in thing]
+    if hasattr(thing, "__dict__"):
+        return type(thing).__name__, seen(vars(thing))
+    return type(thing).__name__, thing
+
+
+def listed(thing):
+    """The same thing with a list for each row."""
+    return [listed(entry) for entry in thing] if isinstance(thing, (list, tuple)) else thing
+
+
+def mixed(thing, depth=0):
+    """The same thing with lists and tuples in one another."""
+    if not isinstance(thing, (list, tuple)):
+        return thing
+    entries = [mixed(entry, depth + k + 1) for k, entry in enumerate(thing)]
+    return entries if depth % 2 else tuple(entries)
+
+
+def bent(thing):
+    """All that thing becomes by bending it in one place: a number, or an entry of a row at any depth."""
+    if not isinstance(thing, tuple):
+        told = [thing + 1, thing - 1, -1, None, str(thing), [thing], {thing: thing}]
+        told += [bool(thing)] if thing in (0, 1) else []
+        return [other for other in told if type(other) is not int or other != thing]
+    told = [None, True, False, 0, "", dict(enumerate(thing)), thing + (0,), thing + ((),), (thing,)]
+    for k, entry in enumerate(thing):
+        told += [thing[:k] + thing[k + 1:], thing[:k] + (entry,) + thing[k:]]
+        told += [thing[:k] + (other,) + thing[k + 1:] for other in bent(entry)]
+        if k + 1 < len(thing) and thing[k] != thing[k + 1]:
+            told.append(thing[:k] + (thing[k + 1], entry) + thing[k + 2:])
+    return told
+
+
+def choices_by_hand(many):
+    """All choices of so many parts, as Python orders tuples."""
+    return sorted(choice for size in range(many + 1) for choice in combinations(range(many), size))
+
+
+def plans_by_hand(many, rounds):
+    """All plans of so many rounds for so many parts, as Python orders tuples."""
+    return product(choices_by_hand(many), repeat=rounds)
+
+
+def price_by_hand(works, plan):
+    """What the plan costs, reckoned in another order: first all calls, then all parts."""
+    calls = sum(1 for choice in plan if choice) * works.call
+    return calls + sum(part.price for choice in plan for k, part in enumerate(works.parts) if k in choice)
+
+
+def walk_by_hand(works, stands, plan, first):
+    """What a walk tells, part by part: the pair "holds" and the path, or why it does not hold and where."""
+    paths = []
+    troubles = []
+    for k, (part, stand) in enumerate(zip(works.parts, stands)):
+        path = [stand]
+        for at, choice in enumerate(plan, start=first):
+            stand = (part.full if k in choice else stand) - part.wear[at % len(part.wear)]
+            if stand < part.mark:
+                troubles.append((at, 1, k, "falls"))
+            path.append(stand)
+        paths.append(path)
+    troubles += [(at, 0, 0, "shut") for at, choice in enumerate(plan, start=first) if choice and at in works.shut]
+    if troubles:
+        at, rank, k, word = min(troubles)
+        return (word, at, k) if word == "falls" else (word, at)
+    return "holds", tuple(tuple(path[behind] for path in paths) for behind in range(len(plan) + 1))
+
+
+def holds_by_hand(works, stands, plan, first):
+    return walk_by_hand(works, stands, plan, first)[0] == "holds"

@@ -32,6 +32,9 @@ DUNDERS = {"__init__", "__eq__", "__repr__", "__str__", "__len__"}
 WORDS_OUT = re.compile(
     r"\b(type|typing|typing_extensions|enum|Enum|IntEnum|StrEnum|Flag|IntFlag|Generic|Protocol|ABC|ABCMeta|namedtuple"
     r"|NamedTuple|TypedDict|TYPE_CHECKING|abstractmethod)\b|dataclass|overload|contextmanager")
+# What gives something to be walked on the spot, and what may walk it, beside a loop.
+WALKED = {"zip", "enumerate", "reversed", "range", "items", "keys", "values"}
+WALKERS = {"list", "tuple", "dict", "sorted", "sum", "any", "all", "enumerate", "zip", "bytes", "min", "max", "join"}
 PLAIN = re.compile(r"[A-Za-z][A-Za-z0-9_]*")
 
 
@@ -50,6 +53,18 @@ def given_names(node):
     if isinstance(node, (ast.arg, ast.keyword)):
         return [node.arg]
     return []
+
+
+def drawn_files(path):
+    """The package's files from which that file draws names."""
+    rows = ast.parse(path.read_text()).body
+    return {PACKAGE / (row.module.split(".")[1] + ".py") for row in rows if isinstance(row, ast.ImportFrom)}
+
+
+def word_of(node):
+    """The name by which a call calls, or nothing."""
+    called = node.func if isinstance(node, ast.Call) else None
+    return getattr(called, "id", getattr(called, "attr", None))
 
 
 def all_nodes():
@@ -124,6 +139,39 @@ class FormTest(unittest.TestCase):
                     self.assertTrue(name in METHODS or not hasattr(builtins, name), f"{where}: {name}")
             if isinstance(node, ast.Name) and hasattr(builtins, node.id):
                 self.assertIn(node.id, OWN_NAMES, where)
+
+    def test_no_files_draw_from_one_another(self):
+        left = list(FILES)
+        while left:
+            free = [path for path in left if not drawn_files(path) & set(left)]
+            self.assertTrue(free, left)
+            left = [path for path in left if path not in free]
+
+    def test_names_of_a_files_top(self):
+        for path in FILES:
+            rows = ast.parse(path.read_text()).body
+            drawn = [name.name for row in rows if isinstance(row, ast.ImportFrom) for name in row.names]
+            made = [name for row in rows for part in [row, *getattr(row, "targets", [])] for name in given_names(part)]
+            classes = [row.name for row in rows if isinstance(row, ast.ClassDef)]
+            self.assertEqual(len(set(drawn + made)), len(drawn + made), path.name)
+            for row in rows:
+                within = [node for node in ast.walk(row) if node is not row and not isinstance(node, ast.Attribute)]
+                for node in within if isinstance(row, (ast.FunctionDef, ast.ClassDef)) else []:
+                    if not isinstance(node, ast.keyword):
+                        self.assertFalse(set(given_names(node)) & set(drawn + classes), f"{path.name}: {row.name}")
+            for name in drawn:
+                uses = [node for node in nodes_of(path) if isinstance(node, ast.Name) and node.id == name]
+                self.assertTrue(uses, f"{path.name} draws {name} and does not use it")
+
+    def test_what_is_walked_is_walked_at_once_and_sets_are_not_walked(self):
+        for where, node in all_nodes():
+            for child in ast.iter_child_nodes(node):
+                if word_of(child) in WALKED:
+                    self.assertTrue(
+                        isinstance(node, (ast.For, ast.comprehension, ast.Compare)) or word_of(node) in WALKERS
+                        or (word_of(node) == "reversed" and word_of(child) == "range"), where)
+                if isinstance(child, (ast.Set, ast.SetComp)):
+                    self.assertTrue(isinstance(node, ast.Compare) or word_of(node) in ("sorted", "len"), where)
 
     def test_values_and_methods_that_are_asked(self):
         nodes = [node for where, node in all_nodes()]

@@ -14,6 +14,20 @@ INTERFACE = {
         "Part": "full mark wear price", "loss": "part round_number", "worn": "part stand first rounds",
         "lasts": "part stand first most",
     },
+    "wearplan.works": {
+        "Works": "parts call shut", "is_choice": "works thing", "cost_of": "works choice",
+    },
+    "wearplan.walks": {
+        "is_plan": "works thing", "price_of": "works plan", "walk": "works stands plan first",
+    },
+    "wearplan.ones": {
+        "late_changes": "part stand first rounds", "needs": "part stand first a b",
+        "is_stretches": "part stand first rounds thing", "stretches": "part stand first rounds",
+    },
+    "wearplan.tables": {
+        "least": "works stands first rounds", "best_plan": "works stands first rounds",
+        "table_of": "works stands first rounds", "is_table": "works stands first rounds thing", "worth_of": "table",
+    },
 }
 
 

@@ -1,7 +1,7 @@
 import unittest
 
 from helper import NOT_ROWS, NOT_WHOLE, by_names
-from wearplan.signs import is_row, is_whole, is_whole_row
+from wearplan.signs import is_rising_row, is_row, is_whole, is_whole_row
 
 GREAT = 10 ** 60
 
@@ -50,6 +50,15 @@ class RowsTest(unittest.TestCase):
             self.assertIs(is_whole_row(thing, 1, 2, 2, 4), True)
         for thing in ([], (), [2, 3, 4], [1], [5], (2, 5), [True], [None], ["2"], [[2]], *NOT_ROWS):
             self.assertIs(is_whole_row(thing, 1, 2, 2, 4), False)
+
+    def test_rising_rows(self):
+        for thing in ([], (), [2], (4,), [2, 3], (2, 4), [2, 3, 4]):
+            self.assertIs(is_rising_row(thing, 2, 4), True)
+        for thing in ([1], [5], [2, 2], [3, 2], (2, 4, 3), [2, 3, 4, 4], [2, 3, 4, 5], [1, 2], [True], [2, None],
+                      ["2"], [[2]], *NOT_ROWS):
+            self.assertIs(is_rising_row(thing, 2, 4), False)
+        for thing, answer in (((), True), ([0], False), ([-1], False), ([0, -1], False), (None, False)):
+            self.assertIs(is_rising_row(thing, 0, -1), answer)
 
 
 if __name__ == "__main__":

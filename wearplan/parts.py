@@ -36,6 +36,12 @@ def is_stand(part, thing):
     return is_whole(thing, part.mark, part.full)
 
 
+def check_stand(part, stand):
+    """Refuse what is no stand of the part."""
+    if not is_stand(part, stand):
+        raise NoStands()
+
+
 def check_first(first):
     """Refuse what is no number of a first round."""
     if not is_whole(first, 0, GREATEST_FIRST):
@@ -51,8 +57,7 @@ def check_rounds(first, rounds):
 
 def check_run(part, stand, first, rounds):
     """Refuse what is no stand of the part with rounds to come."""
-    if not is_stand(part, stand):
-        raise NoStands()
+    check_stand(part, stand)
     check_rounds(first, rounds)
 
 

@@ -19,3 +19,10 @@ def is_whole_row(thing, shortest, longest, least, most):
     if not is_row(thing) or not shortest <= len(thing) <= longest:
         return False
     return all([is_whole(entry, least, most) for entry in thing])
+
+
+def is_rising_row(thing, least, most):
+    """Tell whether thing is a row of whole numbers from least to most, each greater than the one before."""
+    if not is_whole_row(thing, 0, most - least + 1, least, most):
+        return False
+    return all([thing[k - 1] < thing[k] for k in range(1, len(thing))])
