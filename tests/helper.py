@@ -1,7 +1,13 @@
 """What several tests need: things of every kind, calls by name in every order, other ways to find what is told."""
 
+import random
 from itertools import combinations, permutations, product
 
+from wearplan.errors import WearError
+from wearplan.parts import Part
+from wearplan.works import Works
+
+GREAT = 10 ** 40
 NOT_WHOLE = (
     None, True, False, "", "1", "abc", [], [1], (), (1,), {}, {1: 2}, {"a": [1]}, [[[[[1]]]]], ("1", None),
 )
@@ -17,6 +23,33 @@ ODD_ROWS = (
 def by_names(function, **arguments):
     """Call the function with its arguments by name in every order, and give all answers."""
     return [function(**dict(order)) for order in permutations(list(arguments.items()))]
+
+
+def refusal_of(function, *arguments, **named):
+    """The class and the fields of the error with which the function refuses, or None."""
+    try:
+        function(*arguments, **named)
+    except WearError as error:
+        return type(error), *vars(error).values()
+    return None
+
+
+def check_refusals(test, function, right, wrong):
+    """Hold a function to its refusals, each by itself and any two at once.
+
+    right: arguments that are not refused; wrong: triples of an argument's name, things that are none, and the refusal,
+    in the order told.
+    """
+    test.assertIsNone(refusal_of(function, **right))
+    for name, things, refusal in wrong:
+        for thing in things:
+            with test.subTest(function=function.__name__, name=name, thing=thing):
+                test.assertEqual(refusal_of(function, **{**right, name: thing}), refusal)
+    for (name, things, refusal), (other, things_too, later) in combinations(wrong, 2):
+        if name != other:
+            for thing, thing_too in product(things, things_too):
+                told = refusal_of(function, **{**right, other: thing_too, name: thing})
+                test.assertEqual(told, refusal, (function.__name__, name, thing, other, thing_too))
 
 
 def is_told(thing):
@@ -106,3 +139,31 @@ def walk_by_hand(works, stands, plan, first):
 
 def holds_by_hand(works, stands, plan, first):
     return walk_by_hand(works, stands, plan, first)[0] == "holds"
+
+
+def small_works(source, many):
+    """A works that is looked at whole, prices and calls of 0 among them; not a few cannot be kept."""
+    parts = []
+    for k in range(many):
+        full = source.randint(1, 6)
+        wear = [source.randint(0, source.choice((1, 2, full))) for k in range(source.randint(1, 6))]
+        parts.append(Part(full, source.randint(0, min(2, full)), wear, source.choice((0, 0, 1, 2, 5))))
+    shut = sorted(source.sample(range(48), source.choice((0, 0, 8, 20))))
+    return Works(parts, source.choice((0, 0, 1, 3, 9)), shut)
+
+
+def small_asks(times, rounds_by_parts):
+    """Works, stands, first and rounds, so small that all plans can be gone through."""
+    source = random.Random(times)
+    for again in range(times):
+        many = again % 4
+        works = small_works(source, many)
+        stands = tuple(source.randint(part.mark, part.full) for part in works.parts)
+        yield works, stands, source.choice((0, 1, 30, 43, 47)), source.randint(0, rounds_by_parts[many])
+
+
+def best_by_hand(works, stands, first, rounds):
+    """The pair of the least price and the first plan that has it, of all plans, or None."""
+    plans = plans_by_hand(len(works.parts), rounds)
+    holding = [(price_by_hand(works, plan), plan) for plan in plans if holds_by_hand(works, stands, plan, first)]
+    return min(holding, default=None)

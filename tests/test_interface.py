@@ -28,6 +28,18 @@ INTERFACE = {
         "least": "works stands first rounds", "best_plan": "works stands first rounds",
         "table_of": "works stands first rounds", "is_table": "works stands first rounds thing", "worth_of": "table",
     },
+    "wearplan.prices": {
+        "single_least": "part stand first prices shut", "is_shares": "works thing", "even_shares": "works rounds",
+        "bound": "works stands first shares",
+    },
+    "wearplan.leading": {
+        "led": "works stands plan done first", "with_part": "works part", "with_mark": "works k mark",
+        "with_price": "works k price", "with_call": "works call", "with_shut": "works round_number",
+    },
+    "wearplan.ever": {
+        "period": "works", "is_trip": "works stands lead trip", "best_trip": "works stands", "mean_of": "works trip",
+        "worths_of": "works stands", "is_worths": "works stands price rounds thing",
+    },
 }
 
 

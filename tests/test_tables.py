@@ -4,8 +4,8 @@ import unittest
 from itertools import product
 
 from helper import (
-    NOT_ROWS, NOT_WHOLE, ODD_ROWS, bent, fields_of, holds_by_hand, is_told, listed, mixed, plans_by_hand,
-    price_by_hand, walk_by_hand,
+    NOT_ROWS, NOT_WHOLE, ODD_ROWS, bent, best_by_hand, fields_of, is_told, listed, mixed, plans_by_hand, small_asks,
+    small_works, walk_by_hand,
 )
 from wearplan.errors import NoneHolds, NoRounds, NoStands, TooGreat, WearError
 from wearplan.parts import Part
@@ -18,34 +18,6 @@ PUMP = Part(5, 2, [1], 7)
 BELT = Part(6, 0, [0, 3], 2)
 ROCK = Part(4, 4, [0], 9)
 NO_PARTS = Works([], 5, [1])
-
-
-def small_works(source, many):
-    """A works that is looked at whole, prices and calls of 0 among them; not a few cannot be kept."""
-    parts = []
-    for k in range(many):
-        full = source.randint(1, 6)
-        wear = [source.randint(0, source.choice((1, 2, full))) for k in range(source.randint(1, 6))]
-        parts.append(Part(full, source.randint(0, min(2, full)), wear, source.choice((0, 0, 1, 2, 5))))
-    shut = sorted(source.sample(range(48), source.choice((0, 0, 8, 20))))
-    return Works(parts, source.choice((0, 0, 1, 3, 9)), shut)
-
-
-def small_asks(times, rounds_by_parts):
-    """Works, stands, first and rounds, so small that all plans can be gone through."""
-    source = random.Random(times)
-    for again in range(times):
-        many = again % 4
-        works = small_works(source, many)
-        stands = tuple(source.randint(part.mark, part.full) for part in works.parts)
-        yield works, stands, source.choice((0, 1, 30, 43, 47)), source.randint(0, rounds_by_parts[many])
-
-
-def best_by_hand(works, stands, first, rounds):
-    """The pair of the least price and the first plan that has it, of all plans, or None."""
-    plans = plans_by_hand(len(works.parts), rounds)
-    holding = [(price_by_hand(works, plan), plan) for plan in plans if holds_by_hand(works, stands, plan, first)]
-    return min(holding, default=None)
 
 
 def table_by_hand(works, stands, first, rounds):

@@ -2,10 +2,13 @@
 
 import unittest
 
-from helper import by_names, is_told, listed, seen
+from helper import by_names, fields_of, is_told, listed, seen
 from wearplan.errors import WearError
+from wearplan.ever import best_trip, is_trip, is_worths, mean_of, period, worths_of
+from wearplan.leading import led, with_call, with_mark, with_part, with_price, with_shut
 from wearplan.ones import is_stretches, late_changes, needs, stretches
 from wearplan.parts import Part, lasts, loss, worn
+from wearplan.prices import bound, even_shares, is_shares, single_least
 from wearplan.signs import is_whole
 from wearplan.tables import best_plan, is_table, least, table_of, worth_of
 from wearplan.walks import is_plan, price_of, walk
@@ -15,6 +18,9 @@ PUMP = Part(5, 2, [1], 7)
 BELT = Part(6, 0, [0, 3], 2)
 WORKS = Works([PUMP, BELT], 5, [2])
 HARD = Part(5, 3, [3], 1)
+# For ever: one part that is changed each other round, for 3 and the call.
+TURN = Works([Part(2, 0, [1], 3)], 1, [])
+WORTHS = ((0, (0,), 0), (0, (1,), -4))
 TABLE = (
     (((3, 4), 12),),
     (((2, 4), 12), ((2, 6), 12), ((4, 4), 0), ((4, 6), 0)),
@@ -46,6 +52,28 @@ ASKED = (
     (is_table, {"works": WORKS, "stands": [3, 4], "first": 0, "rounds": 2, "thing": listed(TABLE)}, True),
     (is_table, {"works": WORKS, "stands": [3, 4], "first": 0, "rounds": 2, "thing": listed(TABLE[:2])}, False),
     (worth_of, {"table": TABLE}, 12),
+    (single_least, {"part": PUMP, "stand": 3, "first": 1, "prices": [4, 2, 3, 9], "shut": [2]}, 7),
+    (is_shares, {"works": WORKS, "thing": [[3, 2], [0, 5]]}, True),
+    (is_shares, {"works": WORKS, "thing": [[3, 2], [0, [5]]]}, False),
+    (even_shares, {"works": WORKS, "rounds": 2}, ((3, 2), (3, 2))),
+    (bound, {"works": WORKS, "stands": [3, 4], "first": 0, "shares": [[3, 2], [0, 5], [5, 0]]}, 7),
+    (led, {"works": WORKS, "stands": [3, 4], "plan": [[], [0], []], "done": 1, "first": 0}, ((2, 4), 1, ((0,), ()))),
+    (period, {"works": WORKS}, 2),
+    (is_trip, {"works": TURN, "stands": [0], "lead": [[0]], "trip": [[], [0]]}, True),
+    (is_trip, {"works": TURN, "stands": [0], "lead": [[0]], "trip": [[], [[0]]]}, False),
+    (best_trip, {"works": TURN, "stands": [0]}, ((), ((0,), ()))),
+    (mean_of, {"works": TURN, "trip": [[0], []]}, (4, 2)),
+    (worths_of, {"works": TURN, "stands": [0]}, WORTHS),
+    (is_worths, {"works": TURN, "stands": [0], "price": 4, "rounds": 2, "thing": listed(WORTHS)}, True),
+    (is_worths, {"works": TURN, "stands": [0], "price": 4, "rounds": 2, "thing": [[0, [0], [0]]]}, False),
+)
+# Those that tell a works: what its fields are.
+CHANGED = (
+    (with_part, {"works": WORKS, "part": HARD}, {"parts": (PUMP, BELT, HARD), "call": 5, "shut": (2,)}),
+    (with_mark, {"works": WORKS, "k": 0, "mark": 3}, {"parts": (Part(5, 3, [1], 7), BELT), "call": 5, "shut": (2,)}),
+    (with_price, {"works": WORKS, "k": 1, "price": 3}, {"parts": (PUMP, Part(6, 0, [0, 3], 3)), "call": 5, "shut": (2,)}),
+    (with_call, {"works": WORKS, "call": 9}, {"parts": (PUMP, BELT), "call": 9, "shut": (2,)}),
+    (with_shut, {"works": WORKS, "round_number": 1}, {"parts": (PUMP, BELT), "call": 5, "shut": (1, 2)}),
 )
 REFUSED = (
     (Part, {"full": 5, "mark": 2, "wear": [1, [2]], "price": 7}),
@@ -60,6 +88,17 @@ REFUSED = (
     (late_changes, {"part": HARD, "stand": 5, "first": 2, "rounds": 6}),
     (best_plan, {"works": Works([HARD], 5, []), "stands": [5], "first": 2, "rounds": 6}),
     (is_table, {"works": WORKS, "stands": [2, 4], "first": 3, "rounds": 9, "thing": [[[[2, 4], 12]]]}),
+    (single_least, {"part": PUMP, "stand": 3, "first": 1, "prices": [4, [2]], "shut": [3, 2]}),
+    (bound, {"works": WORKS, "stands": [3, 4], "first": 0, "shares": [[3, 2], [0, 6]]}),
+    (led, {"works": WORKS, "stands": [3, 4], "plan": [[], [0], [1]], "done": [1], "first": 0}),
+    (with_part, {"works": WORKS, "part": [PUMP]}),
+    (with_mark, {"works": WORKS, "k": [0], "mark": [1]}),
+    (with_price, {"works": WORKS, "k": 0, "price": [1]}),
+    (with_call, {"works": WORKS, "call": [1]}),
+    (with_shut, {"works": WORKS, "round_number": [2]}),
+    (is_trip, {"works": WORKS, "stands": [5, 6], "lead": [[0], [1, [0]]], "trip": [[0]]}),
+    (best_trip, {"works": Works([Part(4, 3, [3], 1)], 0, []), "stands": [4]}),
+    (is_worths, {"works": TURN, "stands": [0], "price": [4], "rounds": 2, "thing": [[0, [0], 0]]}),
 )
 
 
@@ -71,6 +110,15 @@ class ThingsTest(unittest.TestCase):
                 for told in by_names(function, **arguments):
                     self.assertEqual(seen(told), seen(answer))
                     self.assertTrue(is_told(told))
+                self.assertEqual(seen(arguments), before)
+
+    def test_works_that_are_told(self):
+        for function, arguments, answer in CHANGED:
+            before = seen(arguments)
+            with self.subTest(function=function.__name__):
+                for told in [*by_names(function, **arguments), function(*arguments.values())]:
+                    self.assertIs(type(told), Works)
+                    self.assertEqual(seen(fields_of(told)), seen(answer))
                 self.assertEqual(seen(arguments), before)
 
     def test_by_place(self):

@@ -1,12 +1,15 @@
 """What whole numbers and rows of them are."""
 
 
+def is_number(thing):
+    """Tell whether thing is a whole number of any size."""
+    # A truth counts as an int in Python, but stands for no number here.
+    return isinstance(thing, int) and not isinstance(thing, bool)
+
+
 def is_whole(thing, least, most):
     """Tell whether thing is a whole number from least to most."""
-    # A truth counts as an int in Python, but stands for no number here.
-    if isinstance(thing, bool) or not isinstance(thing, int):
-        return False
-    return least <= thing <= most
+    return is_number(thing) and least <= thing <= most
 
 
 def is_row(thing):

@@ -3,34 +3,42 @@
 from wearplan.errors import Falls, NoPlan, NoStands, Shut
 from wearplan.parts import MOST_ROUNDS, check_first, is_stand, loss
 from wearplan.signs import is_row
-from wearplan.works import cost_of, is_choice
+from wearplan.works import cost_of, is_choice_among
 
 
-def wrong_entry(works, thing):
-    """Tell where thing is no plan: -1 of the whole, else its first entry that is no choice; None of a plan."""
-    if not is_row(thing) or len(thing) > MOST_ROUNDS:
+def wrong_entry(thing, many, most):
+    """Tell where thing is no plan of at most most rounds for so many parts, or None.
+
+    That is -1 where the whole is none, else the number of the first entry that is no choice.
+    """
+    if not is_row(thing) or len(thing) > most:
         return -1
     for k, entry in enumerate(thing):
-        if not is_choice(works, entry):
+        if not is_choice_among(entry, many):
             return k
     return None
 
 
 def is_plan(works, thing):
     """Tell whether thing is a plan, whether it holds or not."""
-    return wrong_entry(works, thing) is None
+    return wrong_entry(thing, len(works.parts), MOST_ROUNDS) is None
 
 
-def check_plan(works, plan):
-    """Refuse what is no plan."""
-    at = wrong_entry(works, plan)
+def check_plan(plan, many):
+    """Refuse what is no plan for so many parts."""
+    at = wrong_entry(plan, many, MOST_ROUNDS)
     if at is not None:
         raise NoPlan(at)
 
 
 def price_of(works, plan):
     """Tell what the plan's choices cost together."""
-    check_plan(works, plan)
+    check_plan(plan, len(works.parts))
+    return costs_together(works, plan)
+
+
+def costs_together(works, plan):
+    """Tell what the choices of a plan of any length cost together."""
     return sum([cost_of(works, choice) for choice in plan])
 
 
@@ -80,12 +88,17 @@ def do_round(works, stands, choice, round_number):
     return behind
 
 
-def walk(works, stands, plan, first):
-    """Tell the stands at the beginning and behind each round of the plan, the first of them numbered first."""
-    check_stands(works, stands)
-    check_first(first)
-    check_plan(works, plan)
+def path_of(works, stands, plan, first):
+    """Tell the stands at the beginning and behind each round of a plan of any length, or refuse its first bad round."""
     path = [tuple(stands)]
     for k, choice in enumerate(plan):
         path.append(do_round(works, path[k], choice, first + k))
     return tuple(path)
+
+
+def walk(works, stands, plan, first):
+    """Tell the stands at the beginning and behind each round of the plan, the first of them numbered first."""
+    check_stands(works, stands)
+    check_first(first)
+    check_plan(plan, len(works.parts))
+    return path_of(works, stands, plan, first)

@@ -17,7 +17,7 @@ class Works:
             raise NoWorks(0)
         if not is_whole(call, 0, GREATEST_CALL):
             raise NoWorks(1)
-        if not is_rising_row(shut, 0, GREATEST_SHUT):
+        if not is_shut(shut):
             raise NoWorks(2)
         # The asker may change the rows later; the works must not follow.
         self.parts = tuple(parts)
@@ -32,9 +32,19 @@ def is_parts(thing):
     return all([isinstance(entry, Part) for entry in thing])
 
 
+def is_shut(thing):
+    """Tell whether thing is a row of rounds that a works may have shut."""
+    return is_rising_row(thing, 0, GREATEST_SHUT)
+
+
+def is_choice_among(thing, many):
+    """Tell whether thing is a row of numbers of so many parts, each greater than the one before."""
+    return is_rising_row(thing, 0, many - 1)
+
+
 def is_choice(works, thing):
     """Tell whether thing is a row of numbers of the works' parts, each greater than the one before."""
-    return is_rising_row(thing, 0, len(works.parts) - 1)
+    return is_choice_among(thing, len(works.parts))
 
 
 def cost_of(works, choice):
