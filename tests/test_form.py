@@ -26,7 +26,7 @@ METHODS = set("""
     append clear copy count endswith extend find get index insert isalnum isalpha isdigit islower isspace isupper items
     join keys ljust lower lstrip partition pop remove replace reverse rfind rjust rpartition rsplit rstrip setdefault
     split splitlines startswith strip update upper values zfill bit_length isascii isdecimal removeprefix removesuffix
-    rindex add discard sort __init__
+    rindex sort __init__
 """.split())
 DUNDERS = {"__init__", "__eq__", "__repr__", "__str__", "__len__"}
 WORDS_OUT = re.compile(
@@ -183,6 +183,8 @@ class FormTest(unittest.TestCase):
         for where, node in all_nodes():
             if isinstance(node, ast.Attribute):
                 self.assertIn(node.attr, methods | values | METHODS, where)
+                # A class has a method so called: so no set is added to.
+                self.assertNotIn(node.attr, ("add", "discard"), where)
 
 
 if __name__ == "__main__":

@@ -3,14 +3,19 @@
 import unittest
 
 from helper import by_names, fields_of, is_told, listed, seen
+from test_interface import INTERFACE
+from wearplan.desk import Desk
 from wearplan.errors import WearError
 from wearplan.ever import best_trip, is_trip, is_worths, mean_of, period, worths_of
 from wearplan.leading import led, with_call, with_mark, with_part, with_price, with_shut
+from wearplan.looking import LookPrices, best_move, least_risk, risk_of
 from wearplan.ones import is_stretches, late_changes, needs, stretches
 from wearplan.parts import Part, lasts, loss, worn
 from wearplan.prices import bound, even_shares, is_shares, single_least
+from wearplan.shares import Shared, chance_of_fall, total_of, weights_behind
 from wearplan.signs import is_whole
 from wearplan.tables import best_plan, is_table, least, table_of, worth_of
+from wearplan.texts import read_part, read_plan, show_part, show_plan
 from wearplan.walks import is_plan, price_of, walk
 from wearplan.works import Works, cost_of, is_choice
 
@@ -21,6 +26,8 @@ HARD = Part(5, 3, [3], 1)
 # For ever: one part that is changed each other round, for 3 and the call.
 TURN = Works([Part(2, 0, [1], 3)], 1, [])
 WORTHS = ((0, (0,), 0), (0, (1,), -4))
+BULB = Shared(1, 0, [1, 1])
+PRICES = LookPrices(1, 20, 50)
 TABLE = (
     (((3, 4), 12),),
     (((2, 4), 12), ((2, 6), 12), ((4, 4), 0), ((4, 6), 0)),
@@ -66,9 +73,23 @@ ASKED = (
     (worths_of, {"works": TURN, "stands": [0]}, WORTHS),
     (is_worths, {"works": TURN, "stands": [0], "price": 4, "rounds": 2, "thing": listed(WORTHS)}, True),
     (is_worths, {"works": TURN, "stands": [0], "price": 4, "rounds": 2, "thing": [[0, [0], [0]]]}, False),
+    (total_of, {"part": BULB}, 2),
+    (weights_behind, {"part": BULB, "stand": 0, "rounds": 2, "changes": [1]}, (1, 1, 2)),
+    (chance_of_fall, {"part": BULB, "stand": 0, "rounds": 2, "changes": [1]}, (2, 4)),
+    (risk_of, {"part": BULB, "weights": [1, 1], "prices": PRICES, "rounds": 1}, 44),
+    (best_move, {"part": BULB, "weights": [1, 1], "prices": PRICES, "rounds": 1}, "look"),
+    (least_risk, {"part": BULB, "stand": 0, "prices": PRICES, "rounds": 1}, 40),
+    (show_plan, {"plan": [[], [0, 2]], "first": 3}, "rounds 2 from 3\n4: 0 2\n"),
+    (read_plan, {"text": "rounds 2 from 3\n4: 0 2\n"}, (((), (0, 2)), 3)),
+    (show_part, {"part": BELT}, "full 6 mark 0 price 2 wear 0 3"),
 )
-# Those that tell a works: what its fields are.
+# Those that tell an object: what its fields are.
 CHANGED = (
+    (Part, {"full": 5, "mark": 2, "wear": [1, 0], "price": 7}, {"full": 5, "mark": 2, "wear": (1, 0), "price": 7}),
+    (Works, {"parts": [PUMP], "call": 5, "shut": [2, 4]}, {"parts": (PUMP,), "call": 5, "shut": (2, 4)}),
+    (Shared, {"full": 5, "mark": 2, "shares": [1, 0]}, {"full": 5, "mark": 2, "shares": (1, 0)}),
+    (LookPrices, {"look": 1, "change": 20, "fall": 50}, {"look": 1, "change": 20, "fall": 50}),
+    (read_part, {"text": "full 6 mark 0 price 2 wear 0 3"}, {"full": 6, "mark": 0, "wear": (0, 3), "price": 2}),
     (with_part, {"works": WORKS, "part": HARD}, {"parts": (PUMP, BELT, HARD), "call": 5, "shut": (2,)}),
     (with_mark, {"works": WORKS, "k": 0, "mark": 3}, {"parts": (Part(5, 3, [1], 7), BELT), "call": 5, "shut": (2,)}),
     (with_price, {"works": WORKS, "k": 1, "price": 3}, {"parts": (PUMP, Part(6, 0, [0, 3], 3)), "call": 5, "shut": (2,)}),
@@ -99,6 +120,17 @@ REFUSED = (
     (is_trip, {"works": WORKS, "stands": [5, 6], "lead": [[0], [1, [0]]], "trip": [[0]]}),
     (best_trip, {"works": Works([Part(4, 3, [3], 1)], 0, []), "stands": [4]}),
     (is_worths, {"works": TURN, "stands": [0], "price": [4], "rounds": 2, "thing": [[0, [0], 0]]}),
+    (Shared, {"full": 5, "mark": 2, "shares": [0, [1]]}),
+    (weights_behind, {"part": BULB, "stand": 0, "rounds": 2, "changes": [1, [0]]}),
+    (chance_of_fall, {"part": BULB, "stand": 0, "rounds": [2], "changes": [1]}),
+    (LookPrices, {"look": [1], "change": 20, "fall": 50}),
+    (risk_of, {"part": BULB, "weights": [1, [1]], "prices": PRICES, "rounds": 1}),
+    (best_move, {"part": BULB, "weights": [1, 1], "prices": PRICES, "rounds": [1]}),
+    (least_risk, {"part": BULB, "stand": [0], "prices": PRICES, "rounds": 1}),
+    (show_plan, {"plan": [[], [2, [0]]], "first": 3}),
+    (read_plan, {"text": ["rounds 2 from 3"]}),
+    (read_part, {"text": ["full 6 mark 0 price 2 wear 0 3"]}),
+    (Desk, {"call": [5]}),
 )
 
 
@@ -112,13 +144,16 @@ class ThingsTest(unittest.TestCase):
                     self.assertTrue(is_told(told))
                 self.assertEqual(seen(arguments), before)
 
-    def test_works_that_are_told(self):
+    def test_objects_that_are_told(self):
         for function, arguments, answer in CHANGED:
             before = seen(arguments)
+            kind = {read_part: Part}.get(function, function if isinstance(function, type) else Works)
             with self.subTest(function=function.__name__):
                 for told in [*by_names(function, **arguments), function(*arguments.values())]:
-                    self.assertIs(type(told), Works)
-                    self.assertEqual(seen(fields_of(told)), seen(answer))
+                    self.assertIs(type(told), kind)
+                    self.assertEqual(sorted(fields_of(told)), sorted(answer))
+                    for name, value in answer.items():
+                        self.assertEqual(seen(getattr(told, name)), seen(value))
                 self.assertEqual(seen(arguments), before)
 
     def test_by_place(self):
@@ -135,6 +170,32 @@ class ThingsTest(unittest.TestCase):
                 errors.append(seen(caught.exception))
             self.assertEqual(errors, errors[:1] * 3)
             self.assertEqual(seen(arguments), before)
+
+    def test_a_desks_methods_by_name_and_nothing_changed(self):
+        for turned in (False, True):
+            desk = Desk(call=5)
+            for method, arguments, answer in (
+                (desk.add, {"part": PUMP}, 0),
+                (desk.add, {"part": BELT}, 1),
+                (desk.set_mark, {"k": 0, "mark": 1}, True),
+                (desk.set_mark, {"k": 0, "mark": 1}, False),
+                (desk.shut_round, {"round_number": 2}, True),
+                (desk.go, {"choice": [0, 1]}, (4, 6)),
+                (desk.told, {}, (1, (4, 6), 14)),
+                (desk.plan, {"rounds": 3}, ((), (), ())),
+            ):
+                before = seen(arguments)
+                order = list(arguments.items())[::-1] if turned else arguments.items()
+                told = method(**dict(order))
+                self.assertEqual(seen(told), seen(answer))
+                self.assertTrue(is_told(told))
+                self.assertEqual(seen(arguments), before)
+            self.assertEqual(seen(desk.works()), seen(Works([Part(5, 1, [1], 7), BELT], 5, [2])))
+
+    def test_every_function_of_the_interface_is_asked_here(self):
+        asked = {function.__name__ for function, *others in ASKED + CHANGED} | {"Desk"}
+        errors = INTERFACE["wearplan.errors"]
+        self.assertEqual(asked, {name for names in INTERFACE.values() for name in names if name not in errors})
 
     def test_lists_changed_behind_the_call_change_no_answer(self):
         stands, plan = [3, 4], [[], [0]]
